@@ -230,8 +230,8 @@ func TestLineOfOneMoreWithoutItsEnd(t *testing.T) {
 		line(t, q, most, "", true, true)
 		holds(t, q, "", 99)
 		line(t, q, most, "", false, false)
-		for _, s := range []string{"a", "bc", "", strings.Repeat("d", 500)} {
-			if n := q.Put([]byte(s)); n != len(s) {
+		for _, s := range []string{"a", "bc", "", strings.Repeat("d", 98), strings.Repeat("d", 99), strings.Repeat("d", 100), strings.Repeat("d", 500)} {
+			if n := q.Put([]byte(s)); n != min(len(s), 99) {
 				t.Error(most, s, n)
 			}
 			holds(t, q, "", 99)
@@ -249,15 +249,16 @@ func TestLineOfOneMoreWithoutItsEnd(t *testing.T) {
 	}
 }
 
-// What goes needs no room; what comes behind it does.
+// What goes is among what came, and needs room as all that comes does.
 func TestWhatGoesIsCounted(t *testing.T) {
 	for _, x := range []struct {
 		put  string
 		n    int
 		left string
 	}{
-		{"", 0, ""}, {"x", 1, ""}, {"xxxxxxxxxx", 10, ""}, {"\n", 1, ""}, {"xx\n", 3, ""}, {"\nab", 3, "ab"}, {"xxxxxxxxxx\nab", 13, "ab"},
-		{"x\nabcd", 6, "abcd"}, {"x\nabcde", 6, "abcd"}, {"xxxxxxxxxx\nabcdefgh\n", 15, "abcd"}, {"\n\n\n\n\n\n", 5, "\n\n\n\n"},
+		{"", 0, ""}, {"x", 1, ""}, {"xxxx", 4, ""}, {"xxxxx", 4, ""}, {"xxxxxxxxxx", 4, ""}, {"\n", 1, ""}, {"xx\n", 3, ""}, {"xxx\n", 4, ""},
+		{"xxxx\n", 4, ""}, {"\nab", 3, "ab"}, {"\nabc", 4, "abc"}, {"\nabcd", 4, "abc"}, {"\nabcdef", 4, "abc"}, {"x\nabcd", 4, "ab"},
+		{"xx\nab", 4, "a"}, {"xxx\nab", 4, ""}, {"xxxx\nab", 4, ""}, {"xxxxxxxxxx\nabcdefgh\n", 4, ""}, {"\n\n\n\n\n\n", 4, "\n\n\n"},
 	} {
 		q := with(4, "long")
 		line(t, q, 3, "", true, true)
@@ -265,8 +266,20 @@ func TestWhatGoesIsCounted(t *testing.T) {
 			t.Errorf("%q: %d", x.put, n)
 		}
 		holds(t, q, x.left, 4-len(x.left))
-		// In several pieces it is the same.
-		q = with(4, "long")
+	}
+}
+
+// What goes takes no room away: in pieces, each of which finds room, all of it goes.
+func TestWhatGoesInPieces(t *testing.T) {
+	for _, x := range []struct {
+		put  string
+		n    int
+		left string
+	}{
+		{"xxxxxxxxxx", 10, ""}, {"xxxxxxxxxx\n", 11, ""}, {"xxxxxxxxxx\nab", 13, "ab"}, {"x\nabcd", 6, "abcd"}, {"x\nabcde", 6, "abcd"},
+		{"xxxxxxxxxx\nabcdefgh\n", 15, "abcd"}, {"\n\n\n\n\n\n", 5, "\n\n\n\n"},
+	} {
+		q := with(4, "long")
 		line(t, q, 3, "", true, true)
 		n := 0
 		for i := range len(x.put) {
@@ -276,6 +289,43 @@ func TestWhatGoesIsCounted(t *testing.T) {
 			t.Errorf("%q in pieces: %d", x.put, n)
 		}
 		holds(t, q, x.left, 4-len(x.left))
+	}
+}
+
+// A line's end for which there is no room any more did not come: more goes, up to the next one that comes.
+func TestMoreGoesUpToAnEndThatComes(t *testing.T) {
+	for _, x := range []struct {
+		first, then string
+		n           int
+		left        string
+	}{
+		{"xxx\nab", "ab", 2, "ab"}, {"xxxx\nab", "ab", 2, ""}, {"xxxx\nab", "\nab", 3, "ab"}, {"xxxxx\n", "x\nab", 4, "ab"}, {"xxxxx\n", "xxxx\n", 4, ""},
+	} {
+		q := with(4, "long")
+		line(t, q, 3, "", true, true)
+		if n := q.Put([]byte(x.first)); n != 4 {
+			t.Errorf("%q: %d", x.first, n)
+		}
+		holds(t, q, "", 4)
+		if n := q.Put([]byte(x.then)); n != x.n {
+			t.Errorf("%q, %q: %d", x.first, x.then, n)
+		}
+		holds(t, q, x.left, 4-len(x.left))
+	}
+}
+
+// However much room there is, no more comes by one Put than Room told ahead of it.
+func TestNoMoreGoesThanThereIsRoomFor(t *testing.T) {
+	for _, most := range []int{1, 2, 255, api.MaxQueue - 1, api.MaxQueue, math.MaxInt} {
+		q := with(most, "x")
+		line(t, q, 0, "", true, true)
+		room := q.Room()
+		for _, n := range []int{room - 1, room, room + 1, 2*room + 1} {
+			if came := q.Put(bytes.Repeat([]byte{'x'}, n)); came != min(n, room) {
+				t.Error(most, n, came)
+			}
+			holds(t, q, "", room)
+		}
 	}
 }
 
@@ -303,7 +353,11 @@ func TestOneTooLongBehindTheOther(t *testing.T) {
 	q.Put([]byte("er\nabcd"))
 	line(t, q, 3, "", true, true)
 	line(t, q, 3, "", false, false)
-	q.Put([]byte("e\nabcdef\nab\n"))
+	if n := q.Put([]byte("e\nabcdef\nab\n")); n != 9 {
+		t.Error(n)
+	}
+	holds(t, q, "abcdef\n", 2)
+	q.Put([]byte("ab\n"))
 	holds(t, q, "abcdef\nab", 0)
 	line(t, q, 3, "", true, true)
 	line(t, q, 3, "", false, false)
@@ -423,17 +477,15 @@ type model struct {
 func (m *model) there() []byte { return m.came[m.gone:] }
 
 func (m *model) put(b []byte) int {
-	for i, c := range b {
-		switch {
-		case m.skip:
+	n := min(len(b), m.most-len(m.there()))
+	for _, c := range b[:n] {
+		if m.skip {
 			m.gone++
 			m.skip = c != '\n'
-		case len(m.there()) == m.most:
-			return i
 		}
 		m.came = append(m.came, c)
 	}
-	return len(b)
+	return n
 }
 
 func (m *model) take(n int) string {
