@@ -242,3 +242,16 @@ func line(x *chance) []string {
 	}
 	return l
 }
+
+// Rule 6: lines of any bytes, most of which are some of a line.
+func TestAnyBytes(t *testing.T) {
+	g, x := newGrammar(), chance(256)
+	for range 20000 {
+		b := []byte(strings.Join(line(&x), " "))
+		for range x.below(4) {
+			i := x.below(len(b))
+			b[i] = pick(&x, ' ', '"', '\\', byte(x.below(256)), b[x.below(len(b))])
+		}
+		g.holds(t, string(b[:len(b)-x.below(2)*x.below(len(b))]))
+	}
+}
